@@ -1,0 +1,1 @@
+"""Boundwatch: the stretch each name can lie in."""
