@@ -10,6 +10,8 @@ FOLDER = pathlib.Path(__file__).resolve().parent.parent / "boundwatch"
 
 CLASSES = {
     "errors": ["BoundError", "BadShelves", "BadRow"],
+    "programs": ["Program"],
+    "running": ["Run"],
 }
 FUNCTIONS = {
     "stretches": {
@@ -25,6 +27,25 @@ FUNCTIONS = {
         "worth": ["expression", "held"],
         "holds": ["condition", "held"],
     },
+    "running": {
+        "ran": ["program", "numbers", "most"],
+    },
+    "knowing": {
+        "reach": ["expression", "known"],
+        "kept": ["condition", "known"],
+        "contrary": ["condition"],
+    },
+    "looking": {
+        "behind": ["program", "at", "known", "shelves"],
+        "looked": ["program"],
+        "index_told": ["program"],
+        "ways_told": ["program"],
+    },
+}
+# For each class that is more than an error: its arguments, its fields and its methods.
+OBJECTS = {
+    "Program": ("programs", ["shelves", "rows"], ["shelves", "rows", "names", "marks", "heads"], []),
+    "Run": ("running", ["program", "numbers"], ["at", "held", "stock", "end"], ["step"]),
 }
 
 
@@ -51,6 +72,30 @@ class InterfaceTest(unittest.TestCase):
                     self.assertIn(name, defined(file_name, ast.FunctionDef))
                     told = inspect.signature(getattr(module, name)).parameters
                     self.assertEqual(list(told), arguments)
+
+    def test_objects(self):
+        from boundwatch.programs import Program
+        from boundwatch.running import Run
+        program = Program({"s": 3}, [("set", "a", 1)])
+        made = {"Program": program, "Run": Run(program, [1, 2])}
+        for name, (file_name, arguments, fields, methods) in OBJECTS.items():
+            with self.subTest(name=name):
+                kind = getattr(importlib.import_module("boundwatch." + file_name), name)
+                self.assertEqual(list(inspect.signature(kind).parameters), arguments)
+                for field in fields:
+                    self.assertTrue(hasattr(made[name], field), field)
+                for method in methods:
+                    self.assertIn(method, vars(kind))
+                    self.assertEqual(list(inspect.signature(getattr(made[name], method)).parameters), [])
+
+    def test_arguments_by_keyword(self):
+        from boundwatch.looking import behind
+        from boundwatch.programs import Program
+        from boundwatch.running import Run, ran
+        program = Program(shelves={"s": 3}, rows=[("jump", 1)])
+        self.assertEqual(Run(program=program, numbers=[]).at, 0)
+        self.assertEqual(ran(program=program, numbers=[], most=1).end, "done")
+        self.assertEqual(behind(program=program, at=0, known={}, shelves={}), [(1, {}, {})])
 
     def test_limit(self):
         from boundwatch.stretches import LIMIT
