@@ -43,8 +43,8 @@ def behind_plain(program, row, known, shelves):
 
 def behind(program, at, known, shelves):
     """The ways on from a row: a list of tuples (goal, names, shelves)."""
-    # At the place behind all rows there is no row to do.
-    if at >= len(program.rows):
+    # Nothing is done at the place behind all rows; and below nought a list would count from its end.
+    if not 0 <= at < len(program.rows):
         return []
     row = program.rows[at]
     match row:

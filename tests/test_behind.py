@@ -80,6 +80,26 @@ class PlainRowsTest(BehindTest):
         for rows in ([], [("set", "a", 1)], [("stop",), ("jump", 0)]):
             self.assertEqual(behind(Program(LENGTHS, rows), len(rows), self.KNOWN, self.SHELVES), [])
 
+    def test_no_way_from_a_row_that_is_none(self):
+        # A number below nought would be counted from the end of a list: it must not tell the ways from the last rows.
+        for rows in ([], [("stop",)], [("set", "a", 1), ("jump", 0)], [("when", ("<", "a", 3), 0), ("put", "s", 0, 1)]):
+            program = Program(LENGTHS, rows)
+            for at in (-1, -2, -3, -5, -60, len(rows) + 1, len(rows) + 2, 61, 70):
+                with self.subTest(rows=rows, at=at):
+                    told = behind(program, at, self.KNOWN, self.SHELVES)
+                    self.assertIs(type(told), list)
+                    self.assertEqual(told, [])
+                    self.assertEqual(behind(program, at, {}, {}), [])
+
+    def test_stretches_beyond_the_limit_raise_nothing(self):
+        known, shelves = {"a": (-TOP - 5, TOP + 5)}, {"s": (0, TOP + 5), "t": (0, 0)}
+        rows = [("set", "b", ("*", "a", "a")), ("take", "b", 0, 1), ("get", "b", "s", "a"), ("put", "s", "a", "a"),
+                ("when", ("<", "a", TOP), 0), ("when", ("!=", "a", "a"), 0), ("jump", 0), ("stop",)]
+        program = Program(LENGTHS, rows)
+        for at in range(len(rows)):
+            with self.subTest(at=at):
+                self.assertIs(type(behind(program, at, known, shelves)), list)
+
 
 class GetTest(BehindTest):
     def test_number_as_index(self):

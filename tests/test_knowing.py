@@ -104,6 +104,18 @@ class ReachTest(unittest.TestCase):
         for by in (0, -1):
             reach(("rest", "a", by), {"a": (1, 5)})
 
+    def test_somewhat_beyond_raises_nothing(self):
+        known = {"abcdefghi": (-TOP - 2, TOP + 2)}
+        self.check([
+            (TOP + 1, (TOP + 1, TOP + 1)),
+            ("abcdefghi", (-TOP - 2, TOP + 2)),
+            (("+", TOP + 1, TOP + 1), None),
+            (("-", TOP + 1, 1), (TOP, TOP)),
+            (("*", "abcdefghi", 1), ALL),
+            (("rest", 3, TOP + 1), (3, 3)),
+            (("+", 1, ("+", 1, ("+", 1, ("+", 1, ("+", 1, ("+", 1, ("+", 1, 1))))))), (8, 8)),
+        ], known)
+
 
 class KeptTest(unittest.TestCase):
     def check(self, condition, known, told):
@@ -230,6 +242,13 @@ class KeptTest(unittest.TestCase):
         self.check(("<=", TOP, "a"), {"a": ALL}, {"a": (TOP, TOP)})
         self.check(("!=", "a", TOP), {"a": ALL}, {"a": (-TOP, TOP - 1)})
         self.check(("!=", -TOP, "a"), {"a": ALL}, {"a": (1 - TOP, TOP)})
+
+    def test_somewhat_beyond_raises_nothing(self):
+        wide = (-TOP - 2, TOP + 2)
+        for sign in SIGNS:
+            for right in (TOP + 1, -TOP - 3, "b", ("rest", "b", TOP + 1), ("rest", "b", 0)):
+                with self.subTest(sign=sign, right=right):
+                    self.assertIn(type(kept((sign, "a", right), {"a": wide, "b": wide})), (dict, type(None)))
 
     def test_other_names_stay(self):
         known = {"c": (7, 8), "a": (0, 9), "b": (4, 6), "d": ALL}

@@ -309,6 +309,11 @@ class RanTest(RunTest):
                 self.assertIsInstance(run, Run)
                 self.check(run, at, {"a": a, "b": b}, end)
 
+    def test_below_nought_steps_are_none(self):
+        for most in (-1, -2, -70):
+            self.check(self.ran(most), 0, {"a": 0, "b": 0})
+        self.check(ran(Program({}, []), [], -1), 0, {}, "done", {})
+
     def test_goes_on_from_there(self):
         run = self.ran(4)
         for _ in range(6):
